@@ -1,6 +1,7 @@
 package plan_test
 
 import (
+	"reflect"
 	"testing"
 
 	"netplan/api"
@@ -122,6 +123,34 @@ func twice(t *testing.T, s string) {
 	if p.Inputs() != q.Inputs() || p.Length(0) != q.Length(0) || p.Length(1) != q.Length(1) {
 		t.Fatalf("%q: two plans differ", s)
 	}
+	if e == api.OK {
+		runTwice(t, s, p, q)
+	}
+}
+
+// runTwice: two plans of one model make the same of the same inputs.
+func runTwice(t *testing.T, s string, p, q *plan.Plan) {
+	var in [][]int
+	for i := 0; i < p.Inputs(); i++ {
+		list := make([]int, p.Length(i))
+		for k := range list {
+			list[k] = k*37%256 - 128
+		}
+		in = append(in, list)
+	}
+	out, e := p.Run(in)
+	again, f := q.Run(in)
+	if e != api.OK || f != api.OK || len(out) == 0 || !reflect.DeepEqual(out, again) {
+		t.Fatalf("%q: Run = %v, %d, then %v, %d", s, out, e, again, f)
+	}
+	for _, list := range out {
+		for _, v := range list {
+			if v < api.Lo || v > api.Hi {
+				t.Fatalf("%q: a cell of %d", s, v)
+			}
+		}
+	}
+	roomless(t, s, out)
 }
 
 func FuzzCompile(f *testing.F) {

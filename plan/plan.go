@@ -8,6 +8,7 @@ import (
 
 // Plan is a model that was compiled.
 type Plan struct {
+	net     *model.Model
 	lengths []int // how many cells each Input has, in the order of their numbers
 }
 
@@ -17,7 +18,7 @@ func Compile(s string) (*Plan, api.Errno) {
 	if e != api.OK {
 		return nil, e
 	}
-	p := &Plan{}
+	p := &Plan{net: m}
 	for _, t := range m.Tensors {
 		if t.Kind == api.Input {
 			n := t.Cells()
@@ -45,9 +46,6 @@ func (p *Plan) Length(i int) int {
 
 // Arena: how many cells the arena has.
 func (p *Plan) Arena() int { return 0 }
-
-// Run: the outputs, cell by cell, in fresh lists: of inputs, which are only read. ErrInput: there are not as many, one is not as long as it must be, or a cell is out of range.
-func (p *Plan) Run(in [][]int) ([][]int, api.Errno) { return nil, 0 }
 
 // Buffers: where each lies: the inputs' and those that steps write, in a fresh list. Steps: in their order, in fresh lists. Ins, Outs: the inputs' and outputs' buffers (-1: a constant).
 func (p *Plan) Buffers() []api.Buffer { return nil }
