@@ -90,3 +90,19 @@ func (o Op) HasWeights() bool {
 func (o Op) ReadsTwo() bool {
 	return o.Kind == api.Add || o.Kind == api.Concat
 }
+
+// Reads answers the tensors that an operator reads, in the order of the bytes: cells, then weights and biases, or the second cells.
+func (o Op) Reads() []int {
+	if o.HasWeights() {
+		return []int{o.A, o.Weights, o.Biases}
+	}
+	if o.ReadsTwo() {
+		return []int{o.A, o.B}
+	}
+	return []int{o.A}
+}
+
+// HasRange tells whether an operator brings what it makes into a range.
+func (o Op) HasRange() bool {
+	return o.Kind >= api.Conv && o.Kind <= api.Clamp
+}

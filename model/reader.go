@@ -180,7 +180,7 @@ func (r *reader) ownNumbers(o *Op) {
 	if o.Kind == api.Add {
 		o.Scales = r.scales(3)
 	}
-	if o.Kind >= api.Conv && o.Kind <= api.Clamp {
+	if o.HasRange() {
 		o.Lo = r.signed()
 		o.Hi = r.signed()
 	}

@@ -55,11 +55,16 @@ func TestP10SeveralPlans(t *testing.T) {
 
 func TestP1NoPlan(t *testing.T) {
 	p, e := plan.Compile("")
-	if e != api.ErrFormat || p.Inputs() != 0 || p.Length(0) != 0 {
-		t.Errorf("the plan beside an error has inputs")
+	if e != api.ErrFormat {
+		t.Errorf("Compile: %d", e)
 	}
-	p = &plan.Plan{}
-	if p.Inputs() != 0 || p.Length(0) != 0 {
-		t.Errorf("an empty plan has inputs")
+	for _, p := range []*plan.Plan{p, {}} {
+		w := tells(p)
+		if p.Inputs() != 0 || p.Length(0) != 0 || p.Length(-1) != 0 || w.arena != 0 {
+			t.Errorf("no plan has inputs, or an arena")
+		}
+		if len(w.buffers) != 0 || len(w.steps) != 0 || len(w.ins) != 0 || len(w.outs) != 0 {
+			t.Errorf("no plan tells %+v", w)
+		}
 	}
 }

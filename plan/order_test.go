@@ -120,11 +120,15 @@ func twice(t *testing.T, s string) {
 	if e != f || (p != nil) != (e == api.OK) || (q != nil) != (e == api.OK) || e < api.OK || e > api.ErrQuant {
 		t.Fatalf("%q: %v, %d, then %v, %d", s, p != nil, e, q != nil, f)
 	}
-	if p.Inputs() != q.Inputs() || p.Length(0) != q.Length(0) || p.Length(1) != q.Length(1) {
+	if p.Inputs() != q.Inputs() || p.Length(0) != q.Length(0) || p.Length(1) != q.Length(1) || !reflect.DeepEqual(tells(p), tells(q)) {
 		t.Fatalf("%q: two plans differ", s)
 	}
 	if e == api.OK {
+		w := sound(t, s, p, api.MaxOps)
 		runTwice(t, s, p, q)
+		if !reflect.DeepEqual(tells(p), w) {
+			t.Fatalf("%q: a run changes the plan", s)
+		}
 	}
 }
 

@@ -6,10 +6,11 @@ import (
 	"netplan/api"
 )
 
-// maker: draws models that are ones.
+// maker: draws models that are ones. A lively one begins with an Input, reads mostly what was made last, and has many Clamps.
 type maker struct {
-	r *rand.Rand
-	n net
+	r      *rand.Rand
+	n      net
+	lively bool
 }
 
 func (d *maker) from(lo, hi int) int { return lo + d.r.Intn(hi-lo+1) }
@@ -63,6 +64,12 @@ func (d *maker) add(t tensor) int {
 
 // readable: some tensor that may be read as cells.
 func (d *maker) readable() int {
+	if d.lively && len(d.n.ops) > 0 && d.r.Intn(3) > 0 {
+		return d.n.ops[len(d.n.ops)-1].to
+	}
+	if d.lively && d.r.Intn(2) > 0 {
+		return 0
+	}
 	for {
 		k := d.r.Intn(len(d.n.tensors))
 		if t := d.n.tensors[k]; t.kind != api.Biases {
@@ -197,10 +204,10 @@ func (d *maker) moving(kind int) {
 	d.n.ops = append(d.n.ops, o)
 }
 
-// draw: a model that a seed says.
+// draw: a model that a seed says, every second one lively.
 func draw(seed int64) net {
-	d := &maker{r: rand.New(rand.NewSource(seed))}
-	for i := d.from(0, 6) + 5; i > 5; i -= 3 {
+	d := &maker{r: rand.New(rand.NewSource(seed)), lively: seed%2 == 1}
+	for i := d.from(0, 6) + 5; i > 5 || d.lively && len(d.n.tensors) == 0; i -= 3 {
 		d.add(tensor{kind: api.Input, h: d.from(1, 6), w: d.from(1, 6), c: d.from(1, 3), zero: d.zero()})
 	}
 	for i := d.from(0, 2); i > 0 || len(d.n.tensors) == 0; i-- {
@@ -208,6 +215,9 @@ func draw(seed int64) net {
 	}
 	for i := d.from(0, 8); i > 0 && len(d.n.tensors) < 20; i-- {
 		kind := d.from(api.Conv, api.Concat)
+		if d.lively && d.r.Intn(3) == 0 {
+			kind = api.Clamp
+		}
 		switch kind {
 		case api.Conv, api.Depth, api.Dense:
 			d.weighing(kind)
